@@ -1,4 +1,4 @@
-"""The call sizes; how calls are handed in and answers are given back."""
+"""The call sizes; all eight calls in one list: how they are handed in and answers are given back."""
 
 import unittest
 
@@ -6,6 +6,7 @@ from racelogs.desk import UnknownCall, answers
 from tests.calls import (
     CANNOT_STAND, GOOD_LOG, GOOD_LOG_SIZES, GOOD_RACE, GOOD_RACE_SIZES, NOT_FORMED, SIZES, asked, fault, lines, log,
     more, race)
+from tests.sailing import ORDER, before, fare, finished, log_text, not_finished, not_started, place, race_text
 
 OTHER_RACE = lines("start 0 0 100 0 0", "finish 0 500 100 500", "mark 50 250", "course 1 1 2 2 3 3 4 4 5 5")
 GOOD_SIZES = [0] + GOOD_RACE_SIZES + GOOD_LOG_SIZES
@@ -69,6 +70,10 @@ class TestAnswers(unittest.TestCase):
 
     def test_each_call_first_and_alone(self):
         self.assertEqual(answers([3]), [1, -5])
+        self.assertEqual(answers([4, 0]), [1, -5])
+        self.assertEqual(answers([5, 0]), [1, -5])
+        self.assertEqual(answers([6]), [1, -5])
+        self.assertEqual(answers([7, 0, 1]), [1, -5])
         self.assertEqual(answers([0, 0]), [3, -6, 0, 3])
         self.assertEqual(answers([1, 0]), [1, 0])
         self.assertEqual(answers([2, 0]), [1, 0])
@@ -78,6 +83,9 @@ class TestAnswers(unittest.TestCase):
 
     def test_bytes_that_look_like_calls(self):
         self.assertEqual(answers([1, 5, 3, 3, 0, 1, 2, 3]), [3, -6, 0, 1, 1, -5])
+
+    def test_boats_that_look_like_calls(self):
+        self.assertEqual(answers([4, 7, 5, 4, 7, 6, 5, 6, 3]), [1, -5] * 5)
 
     def test_as_many_calls_as_may_be(self):
         self.assertEqual(answers(SIZES * 400), [1, -5] * 400)
@@ -120,6 +128,86 @@ class TestAnswers(unittest.TestCase):
             answers([8])
         with self.assertRaises(UnknownCall):
             answers([-1])
+
+
+BY_THE_WEST = race_text(marks=[(5, 50)], course=[(-20, 50)])
+BY_THE_EAST = race_text(marks=[(5, 50)], course=[(30, 50)], moment=1, handicaps=[("b1", 500)])
+WEST = [(5, -1), (5, -1), (5, 1), (-20, 50), (5, 99), (5, 101)]
+EAST = [(5, 0), (5, 0), (5, 1), (30, 50), (5, 98), (5, 101)]
+LOG_OF_TWO = log_text(WEST, EAST)
+WEST_BY_THE_WEST = finished(1, 4, (1, 2), (9, 2))
+EAST_BY_THE_WEST = not_finished(1)
+WEST_BY_THE_EAST = not_finished(1)
+EAST_BY_THE_EAST = finished(1, 4, (2, 3), (22, 3))
+ALL_FARES = [fare(0), fare(1), place(0), place(1), ORDER, before(0, 1), before(1, 1)]
+BY_WEST = [WEST_BY_THE_WEST, EAST_BY_THE_WEST, [0, 1, 1], [-3], [1, 0], [-3], [-3]]
+BY_EAST = [WEST_BY_THE_EAST, EAST_BY_THE_EAST, [-3], [0, 1, 1], [1, 1], [-3], [0]]
+
+
+class TestAllEightCalls(unittest.TestCase):
+    def mixed(self):
+        first = [race(BY_THE_WEST), log(LOG_OF_TWO)] + ALL_FARES
+        second = [race(BY_THE_EAST)] + ALL_FARES + [more("at 7 7 7 6 8 8 8 7\n"), SIZES, fare(2), before(0, 2), log("")]
+        return [number for part in first + second + [fare(0), ORDER] for number in part]
+
+    def test_the_count_stands_ahead_of_each_answer(self):
+        expected = [[0], [0]] + BY_WEST + [[0]] + BY_EAST
+        expected += [[0], [0, 1, 1, 1, 2, 7], [-4], [-4], [0], [-4], [0]]
+        self.assertEqual(answers(self.mixed()), [number for part in expected for number in [len(part)] + part])
+
+    def test_what_is_handed_in_is_not_changed(self):
+        calls = self.mixed()
+        kept = list(calls)
+        answers(calls)
+        self.assertEqual(calls, kept)
+
+    def test_the_same_answer_when_called_twice(self):
+        calls = self.mixed()
+        first = answers(calls)
+        self.assertEqual(answers(list(calls)), first)
+        self.assertEqual(answers(calls), first)
+
+    def test_whole_numbers_alone(self):
+        self.assertEqual({type(number) for number in answers(self.mixed())}, {int})
+
+    def test_a_new_race(self):
+        told = asked(log(LOG_OF_TWO), race(BY_THE_WEST), *ALL_FARES, race(BY_THE_EAST), *ALL_FARES, race(BY_THE_WEST),
+                     *ALL_FARES)
+        self.assertEqual(told, [[0], [0]] + BY_WEST + [[0]] + BY_EAST + [[0]] + BY_WEST)
+
+    def test_a_new_log(self):
+        turned = log_text(EAST, WEST)
+        told = asked(race(BY_THE_WEST), log(turned), *ALL_FARES, log(LOG_OF_TWO), *ALL_FARES)
+        self.assertEqual(told[2:6], [EAST_BY_THE_WEST, WEST_BY_THE_WEST, [-3], [0, 1, 1]])
+        self.assertEqual(told[-7:], BY_WEST)
+
+    def test_a_log_that_grows(self):
+        rows = LOG_OF_TWO.splitlines(keepends=True)
+        told = asked(race(BY_THE_WEST), log("".join(rows[:5])), fare(0), more(rows[5]), fare(0), more("".join(rows[6:8])),
+                     fare(0), ORDER, more(rows[8]), fare(0), ORDER)
+        self.assertEqual(told[2:], [not_started(), [0], not_finished(1), [0], not_finished(1), [0], [0],
+                                    WEST_BY_THE_WEST, [1, 0]])
+
+    def test_refused_texts_change_nothing(self):
+        wrong = [
+            race("?\n"), race(""), race(BY_THE_EAST + "x"), log("?\n"), log(LOG_OF_TWO + "boat x\n"), more("at 1 2\n"),
+            more("wind 0 -5\n"), more("?"), race(" " * 65537), log(" " * 65537), more(" " * 65537)]
+        for call in wrong:
+            told = asked(race(BY_THE_WEST), log(LOG_OF_TWO), *ALL_FARES, call, *ALL_FARES)
+            self.assertIn(told[9][0], (-2, -6))
+            self.assertEqual(told[2:9], BY_WEST)
+            self.assertEqual(told[10:], BY_WEST)
+            # Also where nothing was asked before the refusal.
+            self.assertEqual(asked(race(BY_THE_WEST), log(LOG_OF_TWO), call, *ALL_FARES)[3:], BY_WEST)
+
+    def test_nothing_is_kept_from_one_time_to_the_next(self):
+        asked(race(BY_THE_WEST), log(LOG_OF_TWO), *ALL_FARES)
+        self.assertEqual(asked(*ALL_FARES), [[-5]] * 7)
+        self.assertEqual(asked(race(BY_THE_WEST), fare(0), ORDER), [[0], [-4], [0]])
+
+    def test_the_calls_in_whatever_order(self):
+        told = asked(race(BY_THE_WEST), log(LOG_OF_TWO), *reversed(ALL_FARES))
+        self.assertEqual(told[2:], BY_WEST[::-1])
 
 
 if __name__ == "__main__":
